@@ -8,6 +8,7 @@ import (
 	"testing"
 
 	"wharfinger/api"
+	"wharfinger/probe"
 )
 
 // forms: bytes, and how they are put behind their length, written out by hand.
@@ -25,9 +26,6 @@ var forms = []struct{ bytes, put string }{
 
 // fixed: likewise, without the length.
 func fixed(put string) string { return put[4:] }
-
-// behind: what may stand behind the bytes in a message.
-var behind = []string{"", "\x00", "7", "\x00\x00\x00\x00", "\xff\xff\xff\xff", "\x00\x00\x00\x01a\x00\x00\x00", "abcdefghijklmnopqrstuvwxyz"}
 
 // sizes: lengths about the edges of a unit, of a byte and of two, and about MaxMessage.
 var sizes = []int{0, 1, 2, 3, 4, 5, 6, 7, 8, 9, 63, 64, 65, 255, 256, 257, 258, 259, 260, 4095, 4096, 4097, 65533, 65534, 65535, api.MaxMessage}
@@ -118,7 +116,7 @@ func TestPutLongOnes(t *testing.T) {
 // P2.2: Get, with anything behind, and with bounds from the edge on.
 func TestGet(t *testing.T) {
 	for _, c := range forms {
-		for _, more := range behind {
+		for _, more := range probe.Behind() {
 			for _, most := range []int{len(c.bytes), len(c.bytes) + 1, api.MaxMessage, math.MaxUint32, math.MaxInt} {
 				wantGet(t, c.put+more, most, c.bytes, len(c.put), api.OK)
 			}
@@ -156,25 +154,14 @@ func TestGetShort(t *testing.T) {
 	}
 }
 
-// spoilt: the places of a padding, each with bytes there that are not 0.
-func spoilt(put string, size int, each func(bad string)) {
-	for place := len(put) - Pad(size); place < len(put); place++ {
-		for _, x := range []byte{1, 2, 127, 128, 255} {
-			bad := []byte(put)
-			bad[place] = x
-			each(string(bad))
-		}
-	}
-}
-
 // P2.2: a byte of the padding that is not 0, at every place.
 func TestGetForm(t *testing.T) {
 	for _, c := range forms {
-		spoilt(c.put, len(c.bytes), func(bad string) {
-			for _, more := range behind {
+		for bad := range probe.Spoilt(c.put, Pad(len(c.bytes))) {
+			for _, more := range probe.Behind() {
 				wantGet(t, bad+more, 9, "", 0, api.ErrForm)
 			}
-		})
+		}
 	}
 }
 
@@ -203,7 +190,7 @@ func TestPutFixed(t *testing.T) {
 // P2.3: GetFixed, with anything behind.
 func TestGetFixed(t *testing.T) {
 	for _, c := range forms {
-		for _, more := range behind {
+		for _, more := range probe.Behind() {
 			wantFixed(t, fixed(c.put)+more, len(c.bytes), c.bytes, len(fixed(c.put)), api.OK)
 		}
 	}
@@ -244,11 +231,11 @@ func TestGetFixedShort(t *testing.T) {
 // P2.3: a byte of the padding that is not 0, at every place.
 func TestGetFixedForm(t *testing.T) {
 	for _, c := range forms {
-		spoilt(fixed(c.put), len(c.bytes), func(bad string) {
-			for _, more := range behind {
+		for bad := range probe.Spoilt(fixed(c.put), Pad(len(c.bytes))) {
+			for _, more := range probe.Behind() {
 				wantFixed(t, bad+more, len(c.bytes), "", 0, api.ErrForm)
 			}
-		})
+		}
 	}
 	wantFixed(t, "abcd", 1, "", 0, api.ErrForm)
 }
@@ -261,7 +248,7 @@ func TestPutIsGot(t *testing.T) {
 			if len(put)%4 != 0 || len(bare)%4 != 0 {
 				t.Errorf("of %d bytes: %d with their length, %d without", size, len(put), len(bare))
 			}
-			for _, more := range behind {
+			for _, more := range probe.Behind() {
 				if got, n, e := Get(append(slices.Clone(put), more...), size); !bytes.Equal(got, in) || n != len(put) || e != api.OK {
 					t.Errorf("Get(Put(%d bytes)) = %d bytes, %d, %d", size, len(got), n, e)
 				}
@@ -291,14 +278,10 @@ func gotIsPut(b []byte, size int) string {
 // P2.4 and P0.1: what is got is put as the bytes that it had, at every byte of every place.
 func TestGotIsPut(t *testing.T) {
 	for _, c := range forms {
-		for place := range len(c.put) {
-			for x := range 256 {
-				b := []byte(c.put + "behind")
-				b[place] = byte(x)
-				for size := -1; size < 9; size++ {
-					if wrong := gotIsPut(b, size); wrong != "" {
-						t.Fatal(wrong)
-					}
+		for b := range probe.EveryByte(c.put + "behind") {
+			for size := -1; size < 9; size++ {
+				if wrong := gotIsPut(b, size); wrong != "" {
+					t.Fatal(wrong)
 				}
 			}
 		}
@@ -345,14 +328,6 @@ func TestHandedInStays(t *testing.T) {
 	}
 }
 
-// scribble writes over a list and its spare room.
-func scribble(b []byte) {
-	b = b[:cap(b)]
-	for i := range b {
-		b[i] ^= 255
-	}
-}
-
 // R4: an answer is new memory, spare room too: it shares none with what was handed in, nor with another answer.
 func TestAnswersShareNothing(t *testing.T) {
 	for name, ask := range asked {
@@ -361,11 +336,11 @@ func TestAnswersShareNothing(t *testing.T) {
 			was := slices.Clone(in)
 			one, two := ask(in, size), ask(in, size)
 			want := slices.Clone(two)
-			scribble(one)
+			probe.Scribble(one)
 			if !bytes.Equal(in, was) || !bytes.Equal(two, want) || !bytes.Equal(ask(in, size), want) {
 				t.Errorf("%s of %d: an answer that was written over changed something else", name, size)
 			}
-			scribble(in)
+			probe.Scribble(in)
 			if !bytes.Equal(two, want) {
 				t.Errorf("%s of %d: the answer changed with what was handed in", name, size)
 			}

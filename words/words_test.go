@@ -8,6 +8,7 @@ import (
 	"testing"
 
 	"wharfinger/api"
+	"wharfinger/probe"
 )
 
 // wordsTold: numbers of four bytes and their form, written out by hand.
@@ -207,13 +208,9 @@ func gotIsPut(b []byte) string {
 
 // P1.4 and P0.1: what is got is put as the bytes that it had.
 func TestGotIsPut(t *testing.T) {
-	for place := range 8 {
-		for x := range 256 {
-			b := make([]byte, 9)
-			b[place] = byte(x)
-			if wrong := gotIsPut(b); wrong != "" {
-				t.Fatal(wrong)
-			}
+	for b := range probe.EveryByte("\x00\x00\x00\x00\x00\x00\x00\x00\x00") {
+		if wrong := gotIsPut(b); wrong != "" {
+			t.Fatal(wrong)
 		}
 	}
 }
@@ -257,10 +254,7 @@ func TestAnswersShareNothing(t *testing.T) {
 	for name, put := range puts {
 		one, two := put(), put()
 		want := slices.Clone(two)
-		one = one[:cap(one)]
-		for i := range one {
-			one[i] ^= 255
-		}
+		probe.Scribble(one)
 		if three := put(); !bytes.Equal(two, want) || !bytes.Equal(three, want) {
 			t.Errorf("%s: %v and %v, want %v", name, two, three, want)
 		}
