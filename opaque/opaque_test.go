@@ -30,15 +30,6 @@ func fixed(put string) string { return put[4:] }
 // sizes: lengths about the edges of a unit, of a byte and of two, and about MaxMessage.
 var sizes = []int{0, 1, 2, 3, 4, 5, 6, 7, 8, 9, 63, 64, 65, 255, 256, 257, 258, 259, 260, 4095, 4096, 4097, 65533, 65534, 65535, api.MaxMessage}
 
-// filled: so many bytes, none of them 0.
-func filled(size int) []byte {
-	b := make([]byte, size)
-	for i := range b {
-		b[i] = byte(i%255) + 1
-	}
-	return b
-}
-
 // wantGet asks Get, and says what is wrong.
 func wantGet(t *testing.T, b string, most int, want string, many int, err api.Errno) {
 	t.Helper()
@@ -98,7 +89,7 @@ func TestPut(t *testing.T) {
 // P2.2: a length above one byte, and above two.
 func TestPutLongOnes(t *testing.T) {
 	for size, ahead := range map[int]string{255: "\x00\x00\x00\xff", 256: "\x00\x00\x01\x00", 258: "\x00\x00\x01\x02", 65536: "\x00\x01\x00\x00", 16909060: "\x01\x02\x03\x04"} {
-		in := filled(size)
+		in := probe.Filled(size)
 		want := ahead + string(in) + "\x00\x00\x00"[:Pad(size)]
 		if b := Put(in); string(b) != want {
 			t.Errorf("Put(%d bytes) = %d bytes, beginning %v", size, len(b), b[:4])
@@ -198,7 +189,7 @@ func TestGetFixed(t *testing.T) {
 
 // P2.3: so many bytes may be asked for as a message has, and no more.
 func TestGetFixedArg(t *testing.T) {
-	big := filled(api.MaxMessage + 8)
+	big := probe.Filled(api.MaxMessage + 8)
 	for _, size := range []int{-1, -2, -3, -4, math.MinInt32, math.MinInt, api.MaxMessage + 1, api.MaxMessage + 4, math.MaxUint32, math.MaxInt - 1, math.MaxInt} {
 		for _, b := range [][]byte{nil, {1}, big} {
 			if got, n, e := GetFixed(b, size); len(got) != 0 || n != 0 || e != api.ErrArg {
@@ -243,7 +234,7 @@ func TestGetFixedForm(t *testing.T) {
 // P2.4 and P0.1: what is put is got, whatever stands behind it; all is a multiple of four bytes.
 func TestPutIsGot(t *testing.T) {
 	for _, size := range sizes {
-		for _, in := range [][]byte{filled(size), make([]byte, size)} {
+		for _, in := range [][]byte{probe.Filled(size), make([]byte, size)} {
 			put, bare := Put(in), PutFixed(in)
 			if len(put)%4 != 0 || len(bare)%4 != 0 {
 				t.Errorf("of %d bytes: %d with their length, %d without", size, len(put), len(bare))
@@ -332,7 +323,7 @@ func TestHandedInStays(t *testing.T) {
 func TestAnswersShareNothing(t *testing.T) {
 	for name, ask := range asked {
 		for size := range 6 {
-			in := append(Put(filled(size)), 9, 9, 9, 9)
+			in := append(Put(probe.Filled(size)), 9, 9, 9, 9)
 			was := slices.Clone(in)
 			one, two := ask(in, size), ask(in, size)
 			want := slices.Clone(two)

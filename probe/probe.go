@@ -45,3 +45,12 @@ func Scribble(lists ...[]byte) {
 		}
 	}
 }
+
+// Filled tells so many bytes, none of them 0, so that noughts which stand beside them are seen.
+func Filled(size int) []byte {
+	b := make([]byte, size)
+	for i := range b {
+		b[i] = byte(i%255) + 1
+	}
+	return b
+}

@@ -46,3 +46,16 @@ func TestScribble(t *testing.T) {
 		t.Errorf("%v", room)
 	}
 }
+
+// None of them is 0, and those beside each other differ.
+func TestFilled(t *testing.T) {
+	b := Filled(600)
+	for i, x := range b {
+		if x == 0 || i > 0 && x == b[i-1] {
+			t.Fatalf("%d: %d", i, x)
+		}
+	}
+	if len(b) != 600 || len(Filled(0)) != 0 {
+		t.Errorf("%d, %d", len(b), len(Filled(0)))
+	}
+}
