@@ -401,14 +401,6 @@ func TestHandedInStays(t *testing.T) {
 	}
 }
 
-// scribble writes over Groups and their spare room.
-func scribble(groups []uint32) {
-	groups = groups[:cap(groups)]
-	for i := range groups {
-		groups[i] ^= math.MaxUint32
-	}
-}
-
 // R4: what Put answers is new memory, spare room too: it changes with nothing else, and nothing changes with it.
 func TestPutSharesNothing(t *testing.T) {
 	for _, f := range all() {
@@ -421,7 +413,7 @@ func TestPutSharesNothing(t *testing.T) {
 			t.Errorf("%v: %s: changed with an answer", f.caller, short(string(two)))
 		}
 		wantPut(t, c, f.form)
-		scribble(c.who.Groups)
+		probe.Scribble(c.who.Groups)
 		if string(two) != f.form {
 			t.Errorf("%v: %s: changed with the Groups", f.caller, short(string(two)))
 		}
@@ -434,7 +426,7 @@ func TestGetSharesNothing(t *testing.T) {
 		in := []byte(f.form)
 		one, _ := got(in)
 		two, _ := got(in)
-		scribble(one.who.Groups)
+		probe.Scribble(one.who.Groups)
 		if string(in) != f.form || !two.same(f.caller) {
 			t.Errorf("%v: %v: changed with an answer", f.caller, two)
 		}

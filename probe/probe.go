@@ -37,11 +37,11 @@ func Spoilt(form string, noughts int) iter.Seq[string] {
 }
 
 // Scribble writes over lists and their spare room, so that whoever shares them changes.
-func Scribble(lists ...[]byte) {
-	for _, b := range lists {
-		b = b[:cap(b)]
-		for i := range b {
-			b[i] ^= 255
+func Scribble[N uint8 | uint32](lists ...[]N) {
+	for _, list := range lists {
+		list = list[:cap(list)]
+		for i := range list {
+			list[i] = ^list[i]
 		}
 	}
 }

@@ -45,6 +45,11 @@ func TestScribble(t *testing.T) {
 	if room[0] != 255 || room[1] != 254 || room[2] != 253 {
 		t.Errorf("%v", room)
 	}
+	numbers := []uint32{0, 1}
+	Scribble(numbers[:0])
+	if numbers[0] != 1<<32-1 || numbers[1] != 1<<32-2 {
+		t.Errorf("%v", numbers)
+	}
 }
 
 // None of them is 0, and those beside each other differ.
