@@ -590,6 +590,7 @@ func TestEachThing(t *testing.T) {
 
 // P11.1, P11.2: likewise, each two things of a few values each.
 func TestEachTwoThings(t *testing.T) {
+	t.Parallel()
 	few := func(name string) []any {
 		list := values(name)
 		switch name {
@@ -958,6 +959,7 @@ func TestGetOrder(t *testing.T) {
 
 // P11.1, P11.2, P0.1: each byte of each form changed alone in every way.
 func TestEveryByte(t *testing.T) {
+	t.Parallel()
 	for _, f := range forms() {
 		for b := range probe.EveryByte(f.form) {
 			if wrong := gets(f.args.Proc, b); wrong != "" {
@@ -1002,6 +1004,7 @@ func TestOtherProcs(t *testing.T) {
 
 // P11.1, P11.2, R1: bytes of all sorts, small numbers among them, so that many of them are got.
 func TestAnyBytes(t *testing.T) {
+	t.Parallel()
 	source := rand.New(rand.NewSource(11))
 	got := map[api.Proc]int{}
 	for range 200000 {
@@ -1026,6 +1029,7 @@ func TestAnyBytes(t *testing.T) {
 
 // P11.2: of fewer bytes than what is got has, nothing is got.
 func TestGetFewer(t *testing.T) {
+	t.Parallel()
 	for _, f := range forms() {
 		for _, name := range table(f.args.Proc) {
 			for _, x := range values(name) {
